@@ -1,0 +1,1 @@
+"""Cursorkeys: what one list of keys does at several cursors."""
