@@ -1,11 +1,12 @@
 """Which values are the arguments that the functions of the package take."""
 
 from cursorkeys.errors import InvalidCursors, InvalidIndex, InvalidKeys
-from cursorkeys.errors import InvalidLayout, InvalidRuns, InvalidText
+from cursorkeys.errors import InvalidLayout, InvalidRounds, InvalidRuns, InvalidText, TooLong
 
 LETTERS = "abcdefghijklmnopqrstuvwxyz"
 TEXT_LETTERS = "abcdefghijklmnopqrstuvwxyzABCDEFGHIJKLMNOPQRSTUVWXYZ"
 KEYS = "abcdefghijklmnopqrstuvwxyz-#<>"
+LENGTH_LIMIT = 300
 
 
 def is_integer(value):
@@ -87,3 +88,15 @@ def check_index(index, many):
     """Raise InvalidIndex if index is not an integer from 0 to many - 1."""
     if not is_integer_from(index, 0) or index >= many:
         raise InvalidIndex()
+
+
+def check_rounds(rounds):
+    """Raise InvalidRounds if rounds is not an integer from 0 on."""
+    if not is_integer_from(rounds, 0):
+        raise InvalidRounds()
+
+
+def check_length(many):
+    """Raise TooLong if a result would have so many keys and these are too many."""
+    if many > LENGTH_LIMIT:
+        raise TooLong(LENGTH_LIMIT)

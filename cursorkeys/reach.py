@@ -41,7 +41,7 @@ def far_effect(keys):
         if key in ">#" and not right:
             right.append(right_reach)
             right_reach += 1
-        _press_far(left, right, key)
+        press_between(left, right, key)
     return left_reach, right_reach, tuple(left + right[::-1]), len(left)
 
 
@@ -52,6 +52,23 @@ def same_far(keys, other):
     left_reach = max(first[0], second[0])
     right_reach = max(first[1], second[1])
     return _completed(first, left_reach, right_reach) == _completed(second, left_reach, right_reach)
+
+
+def press_between(left, right, key):
+    """Press a key between the items of both sides, the nearest ones last.
+
+    The key finds what it needs there.
+    """
+    if key == "<":
+        right.append(left.pop())
+    elif key == ">":
+        left.append(right.pop())
+    elif key == "-":
+        left.pop()
+    elif key == "#":
+        right.pop()
+    else:
+        left.append(key)
 
 
 def _growth(key):
@@ -69,17 +86,3 @@ def _completed(effect, left_reach, right_reach):
     new_left = tuple(range(-left_reach, -left_before))
     new_right = tuple(range(right_before, right_reach))
     return left_reach, right_reach, new_left + items + new_right, place + len(new_left)
-
-
-def _press_far(left, right, key):
-    """Press a key between the items of both sides, where it finds what it needs."""
-    if key == "<":
-        right.append(left.pop())
-    elif key == ">":
-        left.append(right.pop())
-    elif key == "-":
-        left.pop()
-    elif key == "#":
-        right.pop()
-    else:
-        left.append(key)

@@ -6,6 +6,9 @@ from cursorkeys.errors import KeyListError
 
 SMALL_KEYS = "a-#<>"
 
+# Characters that differ from each other and from all letters that can be typed.
+MARKS = "".join(chr(10000 + k) for k in range(1000))
+
 NOT_INTEGERS = (None, True, False, "1", 1.0, 1.5, (1,), [1], b"1", {1: 1})
 NOT_STRINGS = (None, 0, 1, True, False, 1.5, b"", b"ab", [], ["a"], (), ("a",), {}, {"a": 1})
 NOT_TUPLES = (None, 0, 1, True, False, 1.5, "", "ab", b"", [], [0], [("a", 1)], {}, {0: 1}, range(1))
@@ -48,6 +51,43 @@ def plain_tracks(text, cursors, keys):
     return tracks
 
 
+def plain_regions(layout, keys):
+    """Press keys on marks; return the regions that are left as (index, text), also empty ones.
+
+    The index is that of the region in the layout. A gap is left as long as the
+    cursors beside it are at different places.
+    """
+    text, places = state_of(layout)
+    for key in keys:
+        text, places = plain_key(text, places, key)
+    edges = [0, *places, len(text)]
+    last = len(edges) - 2
+    return [
+        (at, text[edges[at]:edges[at + 1]])
+        for at in range(last + 1)
+        if at in (0, last) or edges[at] < edges[at + 1]
+    ]
+
+
+def state_of(layout):
+    """Return a text of marks and its cursors with this layout."""
+    before, gaps, behind = layout
+    places = [before]
+    for gap in gaps:
+        places.append(places[-1] + gap)
+    return MARKS[:places[-1] + behind], tuple(places)
+
+
+def all_layouts(size, many):
+    """Return all layouts with so many characters and so many gaps, the smallest tuple first."""
+    layouts = []
+    for before, *gaps in product(range(size + 1), repeat=many + 1):
+        behind = size - before - sum(gaps)
+        if behind >= 0 and 0 not in gaps:
+            layouts.append((before, tuple(gaps), behind))
+    return layouts
+
+
 def all_keys(most, keys=SMALL_KEYS):
     """Return all key lists with at most so many keys."""
     return ["".join(word) for many in range(most + 1) for word in product(keys, repeat=many)]
@@ -73,6 +113,14 @@ def some_state(random, most):
     return text, tuple(sorted(random.sample(range(len(text) + 1), many)))
 
 
+def some_form(random, largest, letters):
+    """Return a form with numbers b and a below largest and a word of at most so many letters."""
+    b = random.randrange(largest)
+    a = random.randrange(largest)
+    word = "".join(random.choice("ab") for _ in range(random.randrange(letters + 1)))
+    return b, word, a, random.randint(max(b, a + b - len(word)), a + b)
+
+
 def assert_error(case, error, function, *args, **named):
     """Assert that the call raises an error of exactly this class."""
     try:
@@ -82,3 +130,19 @@ def assert_error(case, error, function, *args, **named):
         case.assertIsInstance(raised, ValueError)
     else:
         case.fail(f"{function.__name__}{args}{named} returned {answer!r}")
+
+
+class Odd:
+    """A value of no kind that the package knows."""
+
+
+def odd_values():
+    """Return values of many kinds, none of them a tuple with four items."""
+    endless = []
+    endless.append(endless)
+    return (
+        None, True, False, 0, 7, -1, 10 ** 40, 1.5, float("nan"), 1j, "", "abc", "abcd", b"", b"abcd",
+        (), (0,), (0, "", 0), (0, "", 0, 0, 0), [], [0, "", 0, 0], [0, 0, (), 0], {}, {0: 1, 1: 2, 2: 3, 3: 4},
+        {0, 1, 2, 3}, frozenset(), range(4), endless, (endless,), Odd, Odd(), len, lambda: 0, ValueError(), ...,
+        NotImplemented, iter(()), bytearray(b"abcd"), "\ud800",
+    )

@@ -46,6 +46,51 @@ EXAMPLES = """
     >>> from cursorkeys.reach import same_far
     >>> same_far("a<b>", "ba")
     True
+    >>> from cursorkeys.ends import same_at_one
+    >>> same_at_one("x<-#", "")
+    False
+    >>> from cursorkeys.ends import first_difference
+    >>> first_difference("<>", "")
+    (0, 1)
+    >>> from cursorkeys.ends import first_difference
+    >>> first_difference("-x", "x<->")
+    None
+    >>> from cursorkeys.forms import form_of
+    >>> form_of("xx#-")
+    (0, 'x', 1, 0)
+    >>> from cursorkeys.forms import joined
+    >>> joined((1, "x", 0, 1), (2, "", 0, 2))
+    (2, '', 0, 2)
+    >>> from cursorkeys.forms import count_keys
+    >>> count_keys((1, "", 1, 2))
+    2
+    >>> from cursorkeys.forms import same_everywhere
+    >>> same_everywhere("#x", "x#")
+    False
+    >>> from cursorkeys.forms import parting_layout
+    >>> parting_layout("#x", "x#")
+    (0, (1,), 0)
+    >>> from cursorkeys.pieces import pieces_after
+    >>> pieces_after((2, (1, 3), 4), (1, "x", 0, 1))
+    [(0, 1, 'x'), (0, 2, 'x'), (0, 4, '')]
+    >>> from cursorkeys.pieces import pieces_after
+    >>> pieces_after((0, (3,), 0), (0, "xy", 4, 2))
+    [(0, 0, 'xy'), (0, 0, 'y'), (0, 0, '')]
+    >>> from cursorkeys.pieces import layout_by_form
+    >>> layout_by_form((2, (1, 3), 4), (1, "x", 0, 1))
+    (2, (3,), 4)
+    >>> from cursorkeys.pieces import rounds_layout
+    >>> rounds_layout((0, (5, 9), 2), (2, "x", 0, 2), 4)
+    (1, (5,), 2)
+    >>> from cursorkeys.pieces import gone_after
+    >>> gone_after((0, (5, 9), 2), (2, "x", 0, 2), 0)
+    4
+    >>> from cursorkeys.fewest import fewest_keys
+    >>> fewest_keys((0, 2, ("x", 0), 1))
+    4
+    >>> from cursorkeys.fewest import is_shortest
+    >>> is_shortest("x<>")
+    False
 """
 
 
@@ -53,15 +98,18 @@ class Examples(unittest.TestCase):
     def check(self, text, many):
         examples = doctest.DocTestParser().get_doctest(text, {}, "examples", None, 0)
         self.assertEqual(len(examples.examples), many)
+        for example in examples.examples:
+            # Python shows nothing for None, where the document writes it.
+            example.want = "" if example.want == "None\n" else example.want
         told = []
         result = doctest.DocTestRunner(verbose=False).run(examples, out=told.append)
         self.assertEqual(result.failed, 0, "".join(told))
 
     def test_document(self):
-        self.check(EXAMPLES, 26)
+        self.check(EXAMPLES, 56)
 
     def test_readme(self):
-        self.check(README.read_text(encoding="utf-8"), 13)
+        self.check(README.read_text(encoding="utf-8"), 32)
 
 
 if __name__ == "__main__":

@@ -24,6 +24,31 @@ FUNCTIONS = {
         "far_effect": ["keys"],
         "same_far": ["keys", "other"],
     },
+    "ends": {
+        "same_at_one": ["keys", "other"],
+        "first_difference": ["keys", "other"],
+    },
+    "forms": {
+        "form_of": ["keys"],
+        "is_form": ["value"],
+        "joined": ["form", "more"],
+        "keys_of": ["form"],
+        "count_keys": ["form"],
+        "same_everywhere": ["keys", "other"],
+        "parting_layout": ["keys", "other"],
+    },
+    "pieces": {
+        "pieces_after": ["layout", "form"],
+        "layout_by_form": ["layout", "form"],
+        "rounds_layout": ["layout", "form", "rounds"],
+        "gone_after": ["layout", "form", "index"],
+    },
+    "fewest": {
+        "is_effect": ["value"],
+        "fewest_keys": ["effect"],
+        "shortest_keys": ["effect"],
+        "is_shortest": ["keys"],
+    },
 }
 
 
@@ -36,6 +61,11 @@ class Interface(unittest.TestCase):
                     function = getattr(module, word)
                     self.assertEqual(function.__module__, module.__name__)
                     self.assertEqual(list(inspect.signature(function).parameters), parameters)
+
+    def test_joined_takes_any_number_of_forms(self):
+        module = importlib.import_module("cursorkeys.forms")
+        more = inspect.signature(module.joined).parameters["more"]
+        self.assertEqual(more.kind, inspect.Parameter.VAR_POSITIONAL)
 
     def test_press_steps_is_a_generator(self):
         module = importlib.import_module("cursorkeys.pressing")
