@@ -24,6 +24,11 @@ def is_made_of(value, signs):
     return isinstance(value, str) and all([sign in signs for sign in value])
 
 
+def is_text(value):
+    """Return whether any value is a text."""
+    return is_made_of(value, TEXT_LETTERS)
+
+
 def are_cursors(value, text):
     """Return whether any value is cursors of the text."""
     if not isinstance(value, tuple) or len(value) == 0:
@@ -60,7 +65,7 @@ def are_runs(value):
 
 def check_state(text, cursors):
     """Raise the first error that a text with cursors has."""
-    if not is_made_of(text, TEXT_LETTERS):
+    if not is_text(text):
         raise InvalidText()
     if not are_cursors(cursors, text):
         raise InvalidCursors()

@@ -66,7 +66,12 @@ def _without(text, cursors, places):
         parts.append(text[start:place])
         start = place + 1
     parts.append(text[start:])
-    moved = [at - len([place for place in places if place < at]) for at in cursors]
+    moved = []
+    gone = 0
+    for at in cursors:
+        while gone < len(places) and places[gone] < at:
+            gone += 1
+        moved.append(at - gone)
     return "".join(parts), _as_one(moved)
 
 

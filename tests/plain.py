@@ -51,6 +51,23 @@ def plain_tracks(text, cursors, keys):
     return tracks
 
 
+def plain_kind_key(text, cursors, key, overtype):
+    """Press one key; if letters overtype, with a removal ahead of each, whose cursors become one."""
+    if overtype and key not in "-#<>":
+        text, cursors = plain_press(text, cursors, "#")
+    return plain_press(text, cursors, key)
+
+
+def plain_kind_press(text, cursors, keys, overtype=False, shy=False):
+    """Press keys; return the text and the cursors, or the number of the key at which shy cursors meet."""
+    for number, key in enumerate(keys, 1):
+        many = len(cursors)
+        text, cursors = plain_kind_key(text, cursors, key, overtype)
+        if shy and len(cursors) < many:
+            return number
+    return text, cursors
+
+
 def plain_regions(layout, keys):
     """Press keys on marks; return the regions that are left as (index, text), also empty ones.
 

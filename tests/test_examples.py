@@ -91,6 +91,36 @@ EXAMPLES = """
     >>> from cursorkeys.fewest import is_shortest
     >>> is_shortest("x<>")
     False
+    >>> from cursorkeys.keylists import Keys
+    >>> keys = Keys("-x") + Keys(">") * 2
+    >>> keys.written
+    '-x>>'
+    >>> keys("abc", (1, 3))
+    ('xbx', (3,))
+    >>> Keys("-x").begins(keys)
+    True
+    >>> from cursorkeys.editors import Editor
+    >>> editor = Editor("abc", (1, 3))
+    >>> editor.press("-x")
+    2
+    >>> editor.text_now
+    'xbx'
+    >>> editor.try_keys(">>")
+    ('xbx', (3,))
+    >>> editor.layout_now
+    (1, (2,), 0)
+    >>> from cursorkeys.kinds import OvertypeEditor
+    >>> editor = OvertypeEditor("abcd", (0, 2))
+    >>> editor.press("x")
+    2
+    >>> editor.text_now
+    'xbxd'
+    >>> from cursorkeys.texts import format_state
+    >>> format_state("abc", (1, 3))
+    'a|bc|'
+    >>> from cursorkeys.texts import parse_runs
+    >>> parse_runs("-x12 ax3")
+    (('-', 12), ('a', 3))
 """
 
 
@@ -106,10 +136,10 @@ class Examples(unittest.TestCase):
         self.assertEqual(result.failed, 0, "".join(told))
 
     def test_document(self):
-        self.check(EXAMPLES, 56)
+        self.check(EXAMPLES, 75)
 
     def test_readme(self):
-        self.check(README.read_text(encoding="utf-8"), 32)
+        self.check(README.read_text(encoding="utf-8"), 52)
 
 
 if __name__ == "__main__":
