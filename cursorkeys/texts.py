@@ -17,7 +17,7 @@ def format_state(text, cursors):
 def format_runs(runs):
     """Return the text of runs."""
     check_runs(runs)
-    return " ".join([f"{key}x{count}" for key, count in runs])
+    return " ".join([key + "x" + _digits_of(count) for key, count in runs])
 
 
 def parse_state(text):
@@ -51,7 +51,7 @@ def _parse_run(word):
     count = word[2:]
     if not is_made_of(key, KEYS) or word[1:2] != "x" or not _is_number(count):
         raise InvalidRuns()
-    return key, int(count)
+    return key, _number_of(count)
 
 
 def _is_number(word):
@@ -59,3 +59,22 @@ def _is_number(word):
     if word == "" or not is_made_of(word, DIGITS):
         return False
     return word == "0" or word[0] != "0"
+
+
+def _number_of(digits):
+    """Return the number that is written with these digits."""
+    # int refuses some thousand digits with an error that is none of the package.
+    number = 0
+    for digit in digits:
+        number = 10 * number + DIGITS.index(digit)
+    return number
+
+
+def _digits_of(number):
+    """Return the digits of a number."""
+    # str refuses numbers of some thousand digits, too.
+    digits = ""
+    while number >= 10:
+        number, last = divmod(number, 10)
+        digits = DIGITS[last] + digits
+    return DIGITS[number] + digits

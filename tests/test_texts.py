@@ -181,6 +181,15 @@ class Runs(unittest.TestCase):
         for wrong in ("ax1 " * 500, "ax0" + "1" * 1997, "ax" + "1" * 1997 + "a", " " * 2000, "x" * 2000):
             assert_error(self, InvalidRuns, parse_runs, wrong)
 
+    def test_more_digits_than_python_converts(self):
+        # Python converts up to 4300 digits, or fewer where it is told so.
+        runs = (("a", 10 ** 5000 + 1), ("-", 10 ** 4999))
+        written = "ax1" + "0" * 4999 + "1 -x1" + "0" * 4999
+        self.assertEqual(parse_runs(written), runs)
+        self.assertEqual(format_runs(runs), written)
+        for more in (" ", "?", " ?", " bx", " bx01", " bx" + "1" * 5000 + "a", "\u0663"):
+            assert_error(self, InvalidRuns, parse_runs, written + more)
+
     def test_values_that_are_no_written_runs(self):
         strings_that_are_no_runs = tuple(value for value in odd_values() if not isinstance(value, str) or value)
         for value in NOT_RUNS + NOT_STRINGS + strings_that_are_no_runs + ((("a", 3),), ["ax3"], b"ax3", Keys("a"), Odd()):
